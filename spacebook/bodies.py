@@ -4,6 +4,9 @@ Bit n of a body is 1 if the cell with the number n is taken. So what is done
 to all cells at once is done by the bit operators.
 """
 
+# How much higher a cell's number is one place on along x, y, z.
+STRIDES = (1, 8, 64)
+
 # For each turn // 8: which of the old x, y, z (0, 1, 2) the new x, y, z are.
 ORDERS = ((0, 1, 2), (0, 2, 1), (1, 0, 2), (1, 2, 0), (2, 0, 1), (2, 1, 0))
 
@@ -23,13 +26,23 @@ def place_of(number):
     return (number % 8, number // 8 % 8, number // 64)
 
 
+def first_cell(body):
+    """The body with the first of the body's cells alone."""
+    # A number and its negative have just the lowest 1 in common.
+    return body & -body
+
+
+def first_number(body):
+    """The number of the body's first cell."""
+    return first_cell(body).bit_length() - 1
+
+
 def numbers_of(body):
     """The numbers of the body's cells, in order."""
     numbers = []
     rest = body
     while rest != 0:
-        # A number and its negative have just the lowest 1 in common.
-        lowest = rest & -rest
+        lowest = first_cell(rest)
         numbers.append(lowest.bit_length() - 1)
         rest = rest ^ lowest
     return numbers
@@ -38,6 +51,11 @@ def numbers_of(body):
 def cell_body(x, y, z):
     """The body with that one cell."""
     return 1 << number_of(x, y, z)
+
+
+def has_cell(body, x, y, z):
+    """Whether the body has the cell at x, y, z."""
+    return body & cell_body(x, y, z) != 0
 
 
 def repeated(part, first, last, apart):
@@ -96,17 +114,19 @@ def moved(body, dx, dy, dz):
 
 def turned(body, turn):
     """The body turned, by a turn from 0 to 47."""
+    from_x, from_y, from_z = [turned_shares(axis, turn) for axis in range(3)]
     together = 0
     for number in numbers_of(body):
-        x, y, z = turned_place(place_of(number), turn)
-        together |= cell_body(x, y, z)
+        x, y, z = place_of(number)
+        together |= 1 << (from_x[x] + from_y[y] + from_z[z])
     return together
 
 
-def turned_place(place, turn):
-    """Where the cell at that place goes by that turn."""
-    turned_to = [place[axis] for axis in ORDERS[turn // 8]]
-    for axis in range(3):
-        if (turn >> axis) & 1 == 1:
-            turned_to[axis] = 7 - turned_to[axis]
-    return turned_to
+def turned_shares(axis, turn):
+    """What an old number along that axis, from 0 to 7, adds to the turned cell's number."""
+    order = list(ORDERS[turn // 8])
+    new_axis = order.index(axis)
+    shares = [number * STRIDES[new_axis] for number in range(8)]
+    if (turn >> new_axis) & 1 == 1:
+        shares.reverse()
+    return shares

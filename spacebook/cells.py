@@ -1,7 +1,7 @@
 """The way in: a list of calls, and what they answer."""
 
 from spacebook.acts import act
-from spacebook.layout import how_many_numbers, refusal
+from spacebook.layout import end_of_call, refusal
 
 
 def answers(calls):
@@ -10,7 +10,7 @@ def answers(calls):
     told = []
     at = 0
     while at < len(calls):
-        end = at + 1 + how_many_numbers(calls[at])
+        end = end_of_call(calls, at)
         answer = answer_to(calls[at], bodies, calls[at + 1:end])
         told.append(len(answer))
         told.extend(answer)

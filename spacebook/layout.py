@@ -10,6 +10,9 @@ HIGHEST = {
     "turn": 47,
     "kind": 2,
     "times": 8,
+    "axis": 2,
+    "index": 4294967295,
+    "length": 200,
 }
 
 # For each call: what its numbers are, one behind another.
@@ -28,16 +31,39 @@ NUMBERS = {
     12: ("body", "body"),
     13: ("body",),
     14: ("body", "place", "place", "place", "place", "place", "place"),
+    15: ("body",),
+    16: ("body", "kind"),
+    17: ("body", "kind", "index"),
+    18: ("body", "place", "place", "place"),
+    19: ("body", "place", "place", "place", "place", "place", "place"),
+    20: ("body", "place", "place", "place", "place", "place", "place"),
+    21: ("body", "axis", "place"),
+    22: ("body", "axis"),
+    23: ("body",),
+    # How many bytes there are; the bytes themselves stand behind it.
+    24: ("body", "length"),
+    25: ("body",),
+    26: ("body",),
+    27: ("body", "body"),
 }
 
+# The one call with a row of numbers behind the others.
+READ = 24
 
-def how_many_numbers(call):
-    """How many numbers stand behind the number of that call."""
-    return len(NUMBERS[call])
+
+def end_of_call(calls, at):
+    """Where the call that begins there ends."""
+    end = at + 1 + len(NUMBERS[calls[at]])
+    if calls[at] == READ:
+        return end + calls[end - 1]
+    return end
 
 
 def refusal(call, numbers):
-    """The refusal that is due, or 0: -1 for a set, behind it -2 for the rest."""
+    """The refusal that is due, or 0: -1 for a set, behind it -2 for the rest.
+
+    Bytes that are no form are refused by what reads them.
+    """
     wrong = [name for name, number in zip(NUMBERS[call], numbers) if number > HIGHEST[name]]
     if "body" in wrong:
         return -1

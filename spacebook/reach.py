@@ -4,7 +4,7 @@ A kind says which places are beside one another: 0 over faces, 1 over edges
 too, 2 over corners too.
 """
 
-from spacebook.bodies import box_body, full_body, moved
+from spacebook.bodies import box_body, first_cell, full_body, moved
 
 
 def steps_beside(kind):
@@ -43,6 +43,17 @@ def reached(start, allowed, kind):
         found = wider
         wider = grown(found, kind) & allowed
     return found
+
+
+def pieces(body, kind):
+    """The body's pieces, in the order of their first cells."""
+    parted = []
+    rest = body
+    while rest != 0:
+        piece = reached(first_cell(rest), rest, kind)
+        parted.append(piece)
+        rest = rest ^ piece
+    return parted
 
 
 def filled(body, kind):

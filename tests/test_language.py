@@ -60,6 +60,35 @@ def bound_names():
             yield name, node.name
 
 
+def is_plain(node, inner=False):
+    """Whether a node is a value that may stand at a file's top; within another no list and no dict."""
+    if isinstance(node, ast.Tuple):
+        return all(is_plain(item, True) for item in node.elts)
+    if isinstance(node, ast.List):
+        return not inner and all(is_plain(item, True) for item in node.elts)
+    if isinstance(node, ast.Dict):
+        return not inner and all(is_plain(item, True) for item in node.keys + node.values)
+    return isinstance(node, (ast.Constant, ast.Name))
+
+
+def calls_of(tree, names):
+    """The calls of these names of Python's own."""
+    return [node for node in ast.walk(tree) if isinstance(node, ast.Call)
+            and isinstance(node.func, ast.Name) and node.func.id in names]
+
+
+def walked_at_once(tree):
+    """The nodes that stand where something may be walked on the spot."""
+    walked = [node.iter for node in ast.walk(tree) if isinstance(node, (ast.For, ast.comprehension))]
+    for node in calls_of(tree, "list tuple dict sorted sum any all enumerate".split()):
+        walked += node.args[:1]
+    for node in calls_of(tree, ["zip"]):
+        walked += node.args
+    for node in calls_of(tree, ["min", "max"]):
+        walked += node.args if len(node.args) == 1 and not node.keywords else []
+    return walked
+
+
 class Language(unittest.TestCase):
     def test_files(self):
         self.assertIn(PACKAGE / "cells.py", FILES)
@@ -111,6 +140,59 @@ class Language(unittest.TestCase):
         for name, node in nodes_of(ast.Call):
             if isinstance(node.func, ast.Attribute):
                 self.assertIn(node.func.attr, METHODS | own, (name, node.lineno))
+
+    def test_the_top_of_files(self):
+        for path in FILES:
+            bound = []
+            for node in ast.parse(path.read_text(encoding="utf-8")).body:
+                self.assertIsInstance(node, (ast.Expr, ast.ImportFrom, ast.FunctionDef, ast.ClassDef, ast.Assign))
+                if isinstance(node, ast.Expr):
+                    self.assertIsInstance(node.value.value, str, path.name)
+                elif isinstance(node, ast.Assign):
+                    self.assertTrue(is_plain(node.value), (path.name, node.lineno))
+                    bound.append(node.targets[0].id)
+                elif isinstance(node, ast.ImportFrom):
+                    bound += [alias.name for alias in node.names]
+                else:
+                    bound.append(node.name)
+            self.assertEqual(len(bound), len(set(bound)), path.name)
+
+    def test_what_is_walked_at_once(self):
+        for path in FILES:
+            tree = ast.parse(path.read_text(encoding="utf-8"))
+            walked = walked_at_once(tree)
+            for node in calls_of(tree, ["zip", "enumerate", "reversed", "range"]):
+                self.assertIn(node, walked, (path.name, node.lineno))
+
+    def test_keywords(self):
+        for path in FILES:
+            for node in calls_of(ast.parse(path.read_text(encoding="utf-8")), NAMES):
+                allowed = {"sorted": {"key", "reverse"}, "min": {"key", "default"}, "max": {"key", "default"},
+                           "sum": {"start"}, "enumerate": {"start"}, "zip": {"strict"}}.get(node.func.id, set())
+                self.assertTrue({keyword.arg for keyword in node.keywords} <= allowed, (path.name, node.lineno))
+
+    def test_comparisons_powers_and_texts(self):
+        for name, node in nodes_of(ast.Compare):
+            for sign, other in zip(node.ops, node.comparators):
+                if isinstance(sign, (ast.Is, ast.IsNot)):
+                    self.assertTrue(isinstance(other, ast.Constant) and other.value in (None, True, False), name)
+        for name, node in nodes_of(ast.BinOp):
+            if isinstance(node.op, ast.Pow):
+                self.assertIsInstance(node.right, ast.Constant, (name, node.lineno))
+        for name, node in nodes_of(ast.Constant):
+            self.assertNotIn("%", str(node.value), (name, node.lineno))
+        # None is needed, so none is there that could be walked in its own order.
+        for name, node in nodes_of(ast.Name):
+            self.assertNotIn(node.id, ("set", "frozenset"), (name, node.lineno))
+
+    def test_comprehensions(self):
+        for name, node in nodes_of(ast.ListComp):
+            self.assertEqual(len(node.generators), 1, (name, node.lineno))
+            self.assertLessEqual(len(node.generators[0].ifs), 1, (name, node.lineno))
+
+    def test_the_interface_stands_in_its_file_alone(self):
+        found = [(name, node.name) for name, node in nodes_of(ast.FunctionDef, ast.ClassDef) if node.name == "answers"]
+        self.assertEqual(found, [("cells.py", "answers")])
 
     def test_imports(self):
         for name, node in nodes_of(ast.ImportFrom):

@@ -3,12 +3,11 @@
 import unittest
 
 from tests.helper import (
-    BOX, CELL, CLEAR, COUNT, CUBE, FOUR_SETS, MOVE, SAME, SET, TURN, WITH,
+    BOX, CELL, CLEAR, COUNT, CUBE, FOUR_SETS, FULL, LEAST, MOVE, READ, SAME, SET, TURN, WITH,
     all_taken, box, last_reply, model_turned, model_with, replies, taken,
 )
 
 LOWEST, GREATEST = -2147483648, 2147483647
-FULL = (BOX, 0, 0, 0, 0, 7, 7, 7, 1)
 THREE_CELLS = [(SET, 0, 0, 0, 0, 1), (SET, 0, 7, 7, 7, 1), (SET, 0, 3, 4, 5, 1)]
 # The table by which a set becomes a copy of the second.
 COPY = 10
@@ -26,7 +25,7 @@ class OneSetAlone(unittest.TestCase):
         self.assertEqual([len(cells) for cells in before], [4, 25, 60, 511])
         for call in ((CLEAR,), (SET, 5, 6, 7, 1), (SET, 2, 2, 3, 0), (BOX, 1, 1, 1, 5, 5, 5, 1),
                      (BOX, 1, 1, 1, 5, 5, 5, 0), (MOVE, 1, 2, 3), (TURN, 43), (8, 2, 1), (9, 0, 1),
-                     (10, 0), (11, 2, 2, 2, 3)):
+                     (10, 0), (11, 2, 2, 2, 3), (READ, 1, 1), (READ, 6, 106, 0, 0, 0, 0, 0), (LEAST,)):
             for o in range(4):
                 with self.subTest(call=call, o=o):
                     behind = all_taken(FOUR_SETS + [(call[0], o) + call[1:]])
@@ -42,9 +41,12 @@ class OneSetAlone(unittest.TestCase):
 
     def test_telling_calls_change_nothing(self):
         before = all_taken(FOUR_SETS)
-        for call in ((CELL, 0, 1, 2, 3), (SAME, 0, 1), (COUNT, 2), (14, 3, 0, 0, 0, 7, 7, 7)):
-            with self.subTest(call=call):
-                self.assertEqual(all_taken(FOUR_SETS + [call]), before)
+        for o in range(4):
+            for call in ((CELL, o, 1, 2, 3), (SAME, o, 1), (COUNT, o), (14, o, 0, 0, 0, 7, 7, 7), (15, o), (16, o, 1),
+                         (17, o, 0, 0), (18, o, 4, 4, 4), (19, o, 1, 2, 3, 2, 2, 3), (20, o, 1, 2, 3, 7, 0, 5),
+                         (21, o, 2, 3), (22, o, 0), (23, o), (25, o), (27, o, 0), (27, 3, o)):
+                with self.subTest(call=call):
+                    self.assertEqual(all_taken(FOUR_SETS + [call]), before)
 
 
 class Clear(unittest.TestCase):

@@ -3,11 +3,9 @@
 import unittest
 
 from tests.helper import (
-    BOX, COUNT, CUBE, FILL, GROW, KEEP, KINDS, SAME, SET, SHRINK,
+    BOX, COUNT, CUBE, FILL, FULL, GROW, KEEP, KINDS, SAME, SET, SHRINK,
     box, last_reply, model_filled, model_grown, model_piece, model_shrunk, repeated, replies, taken,
 )
-
-FULL = (BOX, 0, 0, 0, 0, 7, 7, 7, 1)
 
 
 def differences(place, other):

@@ -2,9 +2,7 @@
 
 import unittest
 
-from tests.helper import BOX, COUNT, CUBE, FOUR_SETS, IN, SAME, SET, WITH, all_taken, box, last_reply, replies
-
-FULL = (BOX, 0, 0, 0, 0, 7, 7, 7, 1)
+from tests.helper import BOX, COUNT, CUBE, FOUR_SETS, FULL, IN, SAME, SET, WITH, all_taken, box, last_reply, replies
 
 
 class Same(unittest.TestCase):
